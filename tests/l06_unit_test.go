@@ -276,9 +276,9 @@ func TestUnitsNoItem(t *testing.T) {
 	}
 }
 
-// TestUnitsOfWrongOrders has each reason in several forms.
-func TestUnitsOfWrongOrders(t *testing.T) {
-	turns := []classTurn{
+// wrongTurns has each reason in several forms.
+func wrongTurns() []classTurn {
+	return []classTurn{
 		{"way", func(r *impl.Request) { r.Way = 2 }, impl.ClBounds},
 		{"a Count of nothing", func(r *impl.Request) { r.Items[1].Count = 0 }, impl.ClBounds},
 		{"a Count below 0", func(r *impl.Request) { r.Items[0].Count = math.MinInt64 }, impl.ClBounds},
@@ -300,7 +300,10 @@ func TestUnitsOfWrongOrders(t *testing.T) {
 		{"a type too high", func(r *impl.Request) { r.Types[2].H = 101 }, impl.ClPallet},
 		{"a type too heavy", func(r *impl.Request) { r.Types[0].Tare = 4951 }, impl.ClPallet},
 	}
-	for _, x := range turns {
+}
+
+func TestUnitsOfWrongOrders(t *testing.T) {
+	for _, x := range wrongTurns() {
 		r := soundRequest()
 		x.turn(&r)
 		if got := impl.Class(r); got != x.want {
